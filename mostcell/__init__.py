@@ -1,0 +1,1 @@
+"""One cell, kept by most, whole."""
