@@ -11,6 +11,10 @@ QK_START = 0
 QK_HEARD = 1
 QC_START = 2
 QC_READ = 3
+QC_WRITE = 4
+QC_SAY = 5
+QC_HEARD = 6
+QC_DONE = 7
 
 
 class NoSuchCall(ValueError):
@@ -54,4 +58,12 @@ def call_client(client, number, reader):
         return [client.qc_start(me, keepers)]
     if number == QC_READ:
         return [client.qc_read()]
+    if number == QC_WRITE:
+        return [client.qc_write(reader.take_number())]
+    if number == QC_SAY:
+        return client.qc_say()
+    if number == QC_HEARD:
+        return [client.qc_heard(reader.take_row())]
+    if number == QC_DONE:
+        return client.qc_done()
     raise NoSuchCall(f"no call has the number {number}")

@@ -33,6 +33,14 @@ def tell(number, stamp_client, value, client=0, operation=1):
     return message(3, client, 0, stamp_client, operation, number, value)
 
 
+def holds(keeper, number=0, stamp_client=0, value=0, client=0, operation=1):
+    return message(2, client, keeper, stamp_client, operation, number, value)
+
+
+def is_held(keeper, client=0, operation=1):
+    return message(4, client, keeper, operation=operation)
+
+
 def qk_start(keeper, me):
     return [0, keeper, me]
 
@@ -47,6 +55,32 @@ def qc_start(client, me, keepers):
 
 def qc_read(client):
     return [3, client]
+
+
+def qc_write(client, value):
+    return [4, client, value]
+
+
+def qc_say(client):
+    return [5, client]
+
+
+def qc_heard(client, answer):
+    return [6, client, len(answer)] + answer
+
+
+def qc_done(client):
+    return [7, client]
+
+
+def asked_most(client, me, keepers, operation=1, stamp=(0, 0), value=0):
+    """The calls by which most answer the client that they hold this; those of the keepers 0, 1 and so on."""
+    return [qc_heard(client, holds(keeper, *stamp, value, me, operation)) for keeper in range(keepers // 2 + 1)]
+
+
+def told_most(client, me, keepers, operation=1):
+    """The calls by which most answer the client that it's held."""
+    return [qc_heard(client, is_held(keeper, me, operation)) for keeper in range(keepers // 2 + 1)]
 
 
 def flat(calls):
